@@ -1,0 +1,1 @@
+"""Sayfill: spoken dialogues, compiled."""

@@ -1,0 +1,57 @@
+"""What several modules ask of values that are handed in: sequences, words, facts.
+
+What is asked about may be any value, so each function asks of what kind it is before it looks into it.
+"""
+
+MOST_LETTERS = 8
+
+
+def is_row(thing):
+    """Whether the thing is a sequence; a string is none."""
+    return isinstance(thing, (list, tuple))
+
+
+def is_pair(thing):
+    """Whether the thing is a sequence of two."""
+    return is_row(thing) and len(thing) == 2
+
+
+def is_word(thing):
+    """Whether the thing is a string of 1 to 8 small letters."""
+    if not isinstance(thing, str) or not 1 <= len(thing) <= MOST_LETTERS:
+        return False
+    # Not islower or isalpha: these take letters beyond a to z, too.
+    return all(["a" <= sign <= "z" for sign in thing])
+
+
+def are_unlike_words(things):
+    """Whether all the members of a sequence are words, none of them twice."""
+    return all([is_word(thing) for thing in things]) and len(set(things)) == len(things)
+
+
+def are_facts(fields, facts):
+    """Whether the facts are a sequence of pairs (field, value) of unlike fields with values of theirs.
+
+    The fields are as Form.fields() tells them.
+    """
+    if not is_row(facts) or len(facts) > len(fields):
+        return False
+    values_of = dict(fields)
+    told = {}
+    for fact in facts:
+        if not is_pair(fact):
+            return False
+        name, value = fact
+        # A list cannot be looked up in a dict, so what is no string is sorted out first.
+        if not isinstance(name, str) or name in told or name not in values_of:
+            return False
+        if value not in values_of[name]:
+            return False
+        told[name] = True
+    return True
+
+
+def in_sequence(fields, facts):
+    """The pairs of what surely are facts, as tuples in the sequence of the fields."""
+    value_of = dict(facts)
+    return tuple([(name, value_of[name]) for name, _ in fields if name in value_of])
