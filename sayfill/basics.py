@@ -1,4 +1,4 @@
-"""What several modules ask of values that are handed in: sequences, words, facts.
+"""What several modules ask of values that are handed in: sequences, words, texts, facts.
 
 What is asked about may be any value, so each function asks of what kind it is before it looks into it.
 """
@@ -22,6 +22,11 @@ def is_word(thing):
         return False
     # Not islower or isalpha: these take letters beyond a to z, too.
     return all(["a" <= sign <= "z" for sign in thing])
+
+
+def is_text(thing):
+    """Whether the thing is a string of words, one or more, with one blank between."""
+    return isinstance(thing, str) and all([is_word(word) for word in thing.split(" ")])
 
 
 def are_unlike_words(things):

@@ -1,7 +1,6 @@
 """Promises [1], [4], [5] and [6]: the functions of sayfill/filling.py."""
 
 import copy
-import sys
 import unittest
 from itertools import permutations
 from random import Random
@@ -13,7 +12,7 @@ from sayfill.forms import Form
 
 from helpers import (
     EMPTY_ROWS, ODD_THINGS, SMALL_FIELDS, SMALL_RULES, listed, odd_facts, only_tuples, plain_clash, plain_fillings,
-    random_facts, random_parts, wrong_facts,
+    random_facts, random_parts, shallow_calls, wrong_facts,
 )
 
 FACTS_ALONE = (fillings, open_fields, forced, clash)
@@ -431,18 +430,11 @@ class TestBasics(FillingCase):
     def test_1_no_deep_nesting_of_calls(self):
         fields = tuple((name, tuple("vwxyz")[:many]) for name, many in zip("fedcba", (3, 3, 3, 3, 3, 4)))
         facts = tuple((name, "v") for name, _ in fields)
-        depth, frame = 0, sys._getframe()
-        while frame:
-            depth, frame = depth + 1, frame.f_back
-        limit = sys.getrecursionlimit()
-        sys.setrecursionlimit(depth + 200)
-        try:
+        with shallow_calls():
             form = Form(fields, (facts[:4],))
             rows = fillings(form, ())
             lot = clash(form, facts)
             opened = open_fields(form, facts[:3])
-        finally:
-            sys.setrecursionlimit(limit)
         self.assertEqual((len(rows), lot, opened), (960, facts[:4], ("c", "b", "a")))
 
     def test_1_defined_in_the_module(self):
