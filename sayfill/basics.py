@@ -5,6 +5,9 @@ What is asked about may be any value, so each function asks of what kind it is b
 
 MOST_LETTERS = 8
 
+# What stands beside the acts for an utterance that is not understood.
+LOST = ("lost",)
+
 
 def is_row(thing):
     """Whether the thing is a sequence; a string is none."""
@@ -14,6 +17,11 @@ def is_row(thing):
 def is_pair(thing):
     """Whether the thing is a sequence of two."""
     return is_row(thing) and len(thing) == 2
+
+
+def is_number(thing):
+    """Whether the thing is an integer from 0 on; True and False are none."""
+    return isinstance(thing, int) and not isinstance(thing, bool) and thing >= 0
 
 
 def is_word(thing):
@@ -60,3 +68,8 @@ def in_sequence(fields, facts):
     """The pairs of what surely are facts, as tuples in the sequence of the fields."""
     value_of = dict(facts)
     return tuple([(name, value_of[name]) for name, _ in fields if name in value_of])
+
+
+def in_tuples(thing):
+    """The same with tuples in place of lists, also within."""
+    return tuple([in_tuples(part) for part in thing]) if is_row(thing) else thing

@@ -1,10 +1,10 @@
 """Dialogues: what fills a form by talking."""
 
+from sayfill.basics import LOST, in_tuples
 from sayfill.errors import BadValue, TooMany
 from sayfill.forms import Form
-from sayfill.hearing import doubtful
 from sayfill.phrases import meanings
-from sayfill.turns import after_act, prompt_of, to_confirm
+from sayfill.turns import Turns
 
 
 class Dialogue:
@@ -14,28 +14,22 @@ class Dialogue:
         if not isinstance(form, Form):
             raise BadValue(0)
         # This asks of the phrases and the hearing, too, which have the same places here.
-        self._doubts = doubtful(form, phrases, hearing)
+        self._turns = Turns(form, phrases, hearing)
         self._form = form
-        self._phrases = tuple([(text, tuple(act)) for text, act in phrases])
-        self._hearing = tuple([tuple(pair) for pair in hearing])
-        self._state = ((), ())
-        self._lost = False
+        self._phrases = in_tuples(phrases)
+        self._hearing = in_tuples(hearing)
+        self._state = ((), (), False)
 
     def prompt(self):
         """What the dialogue says."""
-        if self._lost:
-            return ("again",)
-        return prompt_of(self._form, self._state)
+        return self._turns.prompt(self._state)
 
     def say(self, utterance):
         """Do what the utterance means, or be lost; then tell the prompt."""
         if not isinstance(utterance, str):
             raise BadValue(0)
-        acts = self._acts_of(utterance)
-        for act in acts:
-            confirm = to_confirm(self._form, self._state)
-            self._state = after_act(self._form, self._doubts, self._state, confirm, act)
-        self._lost = len(acts) == 0
+        for act in self._acts_of(utterance):
+            self._state = self._turns.after(self._state, act)
         return self.prompt()
 
     def facts(self):
@@ -48,13 +42,12 @@ class Dialogue:
 
     def lost(self):
         """Whether the last utterance was not understood."""
-        return self._lost
+        return self._state[2]
 
     def copy(self):
         """A dialogue that is the same and changes by itself."""
         other = Dialogue(self._form, self._phrases, self._hearing)
         other._state = self._state
-        other._lost = self._lost
         return other
 
     def form(self):
@@ -70,9 +63,11 @@ class Dialogue:
         return self._hearing
 
     def _acts_of(self, utterance):
-        """The acts of the only reading, or () if the utterance is not understood."""
+        """The acts of the only reading, or the one of being lost if the utterance is not understood."""
         try:
             readings = meanings(self._form, self._phrases, utterance)
         except TooMany:
-            return ()
-        return readings[0] if len(readings) == 1 else ()
+            return (LOST,)
+        if len(readings) != 1 or len(readings[0]) == 0:
+            return (LOST,)
+        return readings[0]

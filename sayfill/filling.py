@@ -1,22 +1,20 @@
 """What can stand in a form together with facts: fillings, possible values, clashes."""
 
-from itertools import combinations
-
-from sayfill.basics import are_facts, in_sequence
+from sayfill.basics import are_facts, in_sequence, in_tuples
 from sayfill.errors import BadField, BadValue
+from sayfill.tables import Table, rows_that_fit
 
 
 def fillings(form, facts):
     """All fillings that fit the facts, ordered by the values' places."""
     if not are_facts(form.fields(), facts):
         raise BadValue(1)
-    value_of = dict(facts)
-    rows = [()]
-    for name, values in form.fields():
-        pairs = [(name, value) for value in values if value_of.get(name, value) == value]
-        bars = {pair: _bars(form, pair) for pair in pairs}
-        rows = [row + (pair,) for row in rows for pair in pairs if not _one_stands(bars[pair], row)]
-    return tuple(rows)
+    return rows_that_fit(form, facts)
+
+
+def is_filling(form, thing):
+    """Whether the thing is a filling of the form."""
+    return are_facts(form.fields(), thing) and in_tuples(thing) in rows_that_fit(form, thing)
 
 
 def possible(form, facts, field):
@@ -48,27 +46,9 @@ def forced(form, facts):
 
 def clash(form, facts):
     """None if some filling fits, otherwise the first least lot of the facts that no filling fits."""
-    if fillings(form, facts):
-        return None
-    pairs = list(in_sequence(form.fields(), facts))
-    for size in range(len(pairs)):
-        for lot in combinations(pairs, size):
-            if not fillings(form, lot):
-                return lot
-    return tuple(pairs)
-
-
-def _bars(form, pair):
-    """What keeps the pair out where it stands ahead: the rules that end with the pair, without it."""
-    return [rule[:-1] for rule in form.rules() if rule[-1] == pair]
-
-
-def _one_stands(lots, row):
-    """Whether all the pairs of one of the lots stand in the row."""
-    for lot in lots:
-        if all([pair in row for pair in lot]):
-            return True
-    return False
+    if not are_facts(form.fields(), facts):
+        raise BadValue(1)
+    return Table(form).clash(in_sequence(form.fields(), facts))
 
 
 def _place(form, field):

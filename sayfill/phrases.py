@@ -34,7 +34,7 @@ def meanings(form, phrases, utterance):
     words = [word for word in utterance.split(" ") if word]
     if len(words) > MOST_WORDS_SAID:
         raise TooMany("words")
-    acts = _acts_once(phrases)
+    acts = acts_once(phrases)
     texts = [(text.split(" "), acts.index(tuple(act))) for text, act in phrases]
     return tuple([tuple([acts[number] for number in row]) for row in _rows(_steps(texts, words))])
 
@@ -59,6 +59,14 @@ def first_double(form, phrases):
     return None
 
 
+def acts_once(phrases):
+    """The acts of the phrases, each once, at its first phrase's place among them."""
+    acts = {}
+    for _, act in phrases:
+        acts[tuple(act)] = True
+    return list(acts)
+
+
 def _is_phrase(fields, phrase):
     """Whether this is a pair of a text and an act of a form with the fields."""
     if not is_pair(phrase) or not is_text(phrase[0]):
@@ -76,14 +84,6 @@ def _is_act(fields, act):
     if kind == "drop":
         return len(act) == 2 and act[1] in [name for name, _ in fields]
     return (kind == "set" or kind == "not") and are_facts(fields, (act[1:],))
-
-
-def _acts_once(phrases):
-    """The acts of the phrases, each once, at its first phrase's place among them."""
-    acts = {}
-    for _, act in phrases:
-        acts[tuple(act)] = True
-    return list(acts)
 
 
 def _steps(texts, words):
