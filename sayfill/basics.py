@@ -24,12 +24,20 @@ def is_number(thing):
     return isinstance(thing, int) and not isinstance(thing, bool) and thing >= 0
 
 
+def is_small(string):
+    """Whether the string is of small letters, one or more."""
+    # Not islower or isalpha: these take letters beyond a to z, too.
+    return len(string) > 0 and all(["a" <= sign <= "z" for sign in string])
+
+
 def is_word(thing):
     """Whether the thing is a string of 1 to 8 small letters."""
-    if not isinstance(thing, str) or not 1 <= len(thing) <= MOST_LETTERS:
-        return False
-    # Not islower or isalpha: these take letters beyond a to z, too.
-    return all(["a" <= sign <= "z" for sign in thing])
+    return isinstance(thing, str) and len(thing) <= MOST_LETTERS and is_small(thing)
+
+
+def words_of(utterance):
+    """What stands between the blanks of a string."""
+    return [word for word in utterance.split(" ") if word]
 
 
 def is_text(thing):

@@ -3,7 +3,7 @@
 from sayfill.basics import LOST, in_tuples
 from sayfill.errors import BadValue, TooMany
 from sayfill.forms import Form
-from sayfill.phrases import meanings
+from sayfill.phrases import readings_of
 from sayfill.turns import Turns
 
 
@@ -65,7 +65,7 @@ class Dialogue:
     def _acts_of(self, utterance):
         """The acts of the only reading, or the one of being lost if the utterance is not understood."""
         try:
-            readings = meanings(self._form, self._phrases, utterance)
+            readings = readings_of(self._phrases, utterance)
         except TooMany:
             return (LOST,)
         if len(readings) != 1 or len(readings[0]) == 0:

@@ -28,15 +28,17 @@ def is_machine(machine):
 def walked(machine, acts):
     """The prompts of the beginning and behind each of the acts."""
     kept = _machine_at(0, machine)
-    if not is_row(acts) or not _are_acts(kept[0], acts):
+    alphabet, prompts, _ = kept
+    if not is_row(acts) or not _are_acts(alphabet, acts):
         raise BadValue(1)
-    return (kept[1][0],) + _told(kept, [[act] for act in acts])
+    return (prompts[0],) + _told(kept, [[act] for act in acts])
 
 
 def spoken(machine, readings):
     """The prompts behind each of the readings; None is what is not understood."""
     kept = _machine_at(0, machine)
-    if not is_row(readings) or not all([_is_reading(kept[0], reading) for reading in readings]):
+    alphabet, _, _ = kept
+    if not is_row(readings) or not all([_is_reading(alphabet, reading) for reading in readings]):
         raise BadValue(1)
     return _told(kept, [[LOST] if reading is None else reading for reading in readings])
 

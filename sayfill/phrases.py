@@ -2,7 +2,7 @@
 
 from heapq import heappop, heappush
 
-from sayfill.basics import are_facts, is_pair, is_row, is_text
+from sayfill.basics import are_facts, is_pair, is_row, is_text, words_of
 from sayfill.errors import BadValue, TooMany
 
 MOST_PHRASES = 60
@@ -31,7 +31,12 @@ def meanings(form, phrases, utterance):
     check_phrases(form, phrases)
     if not isinstance(utterance, str):
         raise BadValue(2)
-    words = [word for word in utterance.split(" ") if word]
+    return readings_of(phrases, utterance)
+
+
+def readings_of(phrases, utterance):
+    """The readings of a string, of what surely are phrases."""
+    words = words_of(utterance)
     if len(words) > MOST_WORDS_SAID:
         raise TooMany("words")
     acts = acts_once(phrases)
