@@ -124,6 +124,13 @@ class TestServed(UserCase):
             ("clash", lot), ("set", "day", "tue"), ("ask", "hour"), ("set", "hour", "one"),
             ("done", user("tue", "big", "one"))))
 
+    def test_19_clash_with_none_to_set(self):
+        # A filling that has all values of the lot would fit it, so served never comes to this.
+        value_of = dict(user("tue", "big", "one"))
+        for lot in ((), (("day", "tue"),), (("day", "tue"), ("hour", "one"))):
+            self.assertIsNone(users._answer(value_of, ("clash", lot)))
+        self.assertIsNone(users._answer(value_of, ("again",)))
+
     def test_19_whichever_filling_is_done(self):
         talk = small((), ["on monday at one"])
         told = ("done", user("mon", "small", "one"))
